@@ -1,0 +1,1 @@
+"""Pourback: two tubs, and pours told back by what is in them."""
