@@ -1,5 +1,8 @@
 """Whole numbers, and fractions as tuples (top, bottom) in lowest terms."""
 
+NOUGHT = (0, 1)
+ONE = (1, 1)
+
 
 def is_whole(thing):
     """Tell whether thing is a whole number."""
@@ -38,3 +41,18 @@ def is_fraction(thing):
     if not is_whole(top) or not is_whole(bottom) or bottom < 1:
         return False
     return common_divisor(abs(top), bottom) == 1
+
+
+def is_less(one, other):
+    """Tell whether a fraction is worth less than another one."""
+    return one[0] * other[1] < other[0] * one[1]
+
+
+def apart(one, other):
+    """Tell how far two fractions are from one another."""
+    return lowest(abs(one[0] * other[1] - other[0] * one[1]), one[1] * other[1])
+
+
+def together(one, other):
+    """Tell the sum of two fractions from 0 on."""
+    return lowest(one[0] * other[1] + other[0] * one[1], one[1] * other[1])

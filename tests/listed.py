@@ -1,6 +1,7 @@
 """What the tests hold the program against: all rows listed, fractions of Python's own."""
 
 from fractions import Fraction
+from functools import cache
 from itertools import product
 from math import gcd
 
@@ -66,6 +67,33 @@ def listed_rows_to(parts, share, many):
     """All pairs (row, beginning), by trying each row of many pours."""
     tried = [(row, beginning_of(parts, share, row)) for row in all_rows(many)]
     return [(row, as_pair(worth)) for row, worth in tried if 0 <= worth <= 1]
+
+
+@cache
+def listed_ends(parts, share, many, lefts):
+    """All pairs (end, row) of the rows of many pours with so many lefts, by the ends."""
+    rows = [row for row in all_rows(many) if lefts is None or row.count(LEFT) == lefts]
+    return sorted((end_of(parts, share, row), row) for row in rows)
+
+
+def all_lefts(many):
+    """None, and every number of lefts that rows of many pours can have."""
+    return (None,) + tuple(range(many + 1))
+
+
+def wishes(parts, share, many):
+    """Shares at the ends of rows, between two of them, and around all of them."""
+    ends = [end for end, row in listed_ends(parts, share, many, None)]
+    wished = ends + [(one + other) / 2 for one, other in zip(ends, ends[1:])]
+    pairs = [as_pair(worth) for worth in wished] + list(SOME_SHARES) + list(LONG_SHARES)
+    return [pair for pair in pairs if pair[1] <= TWENTY_NINES]
+
+
+def listed_nearest(parts, share, many, lefts, wished):
+    """The pair (row, how far), by trying each row."""
+    far = [(abs(end - Fraction(*wished)), end, row) for end, row in listed_ends(parts, share, many, lefts)]
+    distance, end, row = min(far)
+    return (row, as_pair(distance))
 
 
 def nested(depth, width):

@@ -32,6 +32,7 @@ BARRED_NODES = (
     ast.MatMult,
     ast.Import,
 )
+DOUBLE_UNDERSCORES = ("__init__", "__eq__", "__len__")
 MODULE_LEVEL = (ast.ImportFrom, ast.FunctionDef, ast.ClassDef, ast.Assign)
 
 
@@ -93,8 +94,9 @@ class Language(unittest.TestCase):
     def test_names(self):
         for node in self.nodes((ast.Name, ast.arg, ast.FunctionDef, ast.ClassDef)):
             name = node.id if isinstance(node, ast.Name) else node.arg if isinstance(node, ast.arg) else node.name
-            if not (name.startswith("__") and name.endswith("__")):
-                self.assertRegex(name, r"\A[A-Za-z]")
+            if isinstance(node, ast.FunctionDef) and name in DOUBLE_UNDERSCORES:
+                continue
+            self.assertRegex(name, r"\A[A-Za-z]")
             if hasattr(builtins, name):
                 self.assertIsInstance(node, ast.Name)
                 self.assertIsInstance(node.ctx, ast.Load)
@@ -106,6 +108,35 @@ class Language(unittest.TestCase):
                 if isinstance(sign, (ast.Is, ast.IsNot)):
                     self.assertIsInstance(right, ast.Constant)
                     self.assertIn(right.value, (None, True, False))
+
+    def test_imports_name_the_file_that_defines_the_name(self):
+        for node in self.nodes(ast.ImportFrom):
+            file = PACKAGE / (node.module.removeprefix("pourback.") + ".py")
+            body = ast.parse(file.read_text(encoding="utf-8")).body
+            defined = [one.name for one in body if isinstance(one, (ast.FunctionDef, ast.ClassDef))]
+            defined += [one.targets[0].id for one in body if isinstance(one, ast.Assign)]
+            for name in node.names:
+                self.assertIn(name.name, defined)
+                self.assertIsNone(name.asname)
+
+    def test_no_local_name_is_that_of_an_import_or_a_class(self):
+        for text, tree in self.files:
+            taken = [node.name for node in ast.walk(tree) if isinstance(node, (ast.alias, ast.ClassDef))]
+            for node in ast.walk(tree):
+                if isinstance(node, ast.arg):
+                    self.assertNotIn(node.arg, taken)
+                if isinstance(node, ast.Name) and isinstance(node.ctx, ast.Store):
+                    self.assertNotIn(node.id, taken)
+
+    def test_methods_and_attributes_have_unlike_names(self):
+        inside = [node for kind in self.nodes(ast.ClassDef) for node in kind.body]
+        methods = [node.name for node in inside if isinstance(node, ast.FunctionDef)]
+        for node in self.nodes(ast.Attribute):
+            if isinstance(node.ctx, ast.Store):
+                self.assertNotIn(node.attr, methods)
+
+    def test_no_generator_expressions_beside_a_class_that_compares(self):
+        self.assertEqual(self.nodes(ast.GeneratorExp), [])
 
 
 if __name__ == "__main__":
